@@ -1,0 +1,1 @@
+"""A little language, read and run: its calls are in smalltongue.desk."""
