@@ -2,7 +2,9 @@
 
 from smalltongue.grammar import read_program
 from smalltongue.refusals import NoProgram, NotRight, TooMuch
+from smalltongue.refusals import NoStepsLeft, Outside, PartedByZero, TooManyCalls
 from smalltongue.right import check_right
+from smalltongue.run import Run, run_main
 from smalltongue.scan import part
 
 MOST_BYTES = 8192
@@ -13,18 +15,50 @@ TOO_MUCH = -28
 NO_PROGRAM = -71
 NOT_RIGHT = -22
 
+PARTED_BY_ZERO = -33
+OUTSIDE = -34
+NO_STEPS_LEFT = -62
+TOO_MANY_CALLS = -40
+
+
+class Reading:
+    # Either a refusal below 0, or 0 and what was read.
+    def __init__(self, refusal, tokens, functions):
+        self.refusal = refusal
+        self.tokens = tokens
+        self.functions = functions
+
 
 def pr_read(t):
+    reading = reading_of(t)
+    if reading.refusal != 0:
+        return [0, reading.refusal]
+    return [1, len(reading.tokens), len(reading.functions)]
+
+
+def pr_run(steps, t, g):
+    reading = reading_of(t)
+    if reading.refusal != 0:
+        return [0, reading.refusal]
+    run = Run(reading.functions, steps, g)
+    ending = ending_of(run)
+    answer = [2, len(run.record)]
+    for entry in run.record:
+        answer.extend(entry)
+    return answer + ending
+
+
+def reading_of(t):
     try:
         tokens = tokens_of(t)
         functions = functions_of(tokens)
     except TooMuch:
-        return [0, TOO_MUCH]
+        return Reading(TOO_MUCH, [], [])
     except NoProgram:
-        return [0, NO_PROGRAM]
+        return Reading(NO_PROGRAM, [], [])
     except NotRight:
-        return [0, NOT_RIGHT]
-    return [1, len(tokens), len(functions)]
+        return Reading(NOT_RIGHT, [], [])
+    return Reading(0, tokens, functions)
 
 
 def tokens_of(t):
@@ -42,3 +76,17 @@ def functions_of(tokens):
         raise TooMuch()
     check_right(functions)
     return functions
+
+
+def ending_of(run):
+    try:
+        out = run_main(run)
+    except PartedByZero:
+        return [PARTED_BY_ZERO]
+    except Outside:
+        return [OUTSIDE]
+    except NoStepsLeft:
+        return [NO_STEPS_LEFT]
+    except TooManyCalls:
+        return [TOO_MANY_CALLS]
+    return [0, out]

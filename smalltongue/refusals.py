@@ -1,4 +1,4 @@
-"""The errors by which a text is refused, one for each number that is answered."""
+"""The errors by which a text is refused or a run is stopped, one for each number that is answered."""
 
 
 class TooMuch(Exception):
@@ -10,4 +10,20 @@ class NoProgram(Exception):
 
 
 class NotRight(Exception):
+    pass
+
+
+class PartedByZero(Exception):
+    pass
+
+
+class Outside(Exception):
+    pass
+
+
+class NoStepsLeft(Exception):
+    pass
+
+
+class TooManyCalls(Exception):
     pass

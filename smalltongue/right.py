@@ -48,16 +48,16 @@ def check_function(function, counts):
     scope = Scope()
     for name in function.parameters:
         scope.tell(name)
-    for how, name, count in function.mentions:
+    for how, name, count in function.orders:
         if how == "begin":
             scope.begin_block()
         elif how == "end":
             scope.end_block()
         elif how == "let":
             scope.tell(name)
-        elif how == "use":
+        elif how == "use" or how == "set":
             scope.use(name)
-        else:
+        elif how == "call":
             check_call(name, count, counts)
 
 
